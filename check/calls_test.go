@@ -57,7 +57,7 @@ func TestKnown(t *testing.T) {
 func TestLeast(t *testing.T) {
 	for s, want := range map[string]int{
 		"": 0, "x: u8;": 8, "x: u1; y: i48;": 49, "x: bytes(3);": 24, "x: text(2); y: u4;": 20, "x: bytes(0);": 0, "n: u8; x: bytes(n);": 8, "x: bytes(1 + 1);": 0, "x: bytes(left);": 0, "let y = 1; check y: \"\";": 0, "x: u8; goes b;": 8, "x: u8; try b;": 8, "x: u8; next t(x);": 8, "goes b; x: u8;": 8,
-		"within (4) { x: u8; }": 0, "within (4) { x: u8; } y: u8;": 8, "within (left) {} y: u2;": 2, "until { x: u8; }": 0, "until { x: u8; } y: u3;": 3, "n: u8; repeat (n) { x: u8; }": 8, "repeat (3) { x: u5; }": 15, "repeat (0) { x: u8; }": 0, "repeat (1) { x: u8; } y: u8;": 16, "repeat (4) { repeat (5) { x: u2; y: u1; } z: u1; }": 64, "repeat (2 + 1) { x: u8; }": 0, "sub s { x: u8; } y: u8;": 16, "sub s {}": 0,
+		"within (4) { x: u8; }": 0, "within (4) { x: u8; } y: u8;": 8, "within (left) {} y: u2;": 2, "until { x: u8; }": 0, "until { x: u8; } y: u3;": 3, "n: u8; repeat (n) { x: u8; }": 8, "repeat (3) { x: u5; }": 15, "repeat (0) { x: u8; }": 0, "repeat (0) { goes a; } x: u3;": 3, "repeat (1) { x: u8; } y: u8;": 16, "repeat (4) { repeat (5) { x: u2; y: u1; } z: u1; }": 64, "repeat (2 + 1) { x: u8; }": 0, "sub s { x: u8; } y: u8;": 16, "sub s {}": 0,
 		"if (1) { x: u8; }": 0, "if (1) { x: u8; } y: u4;": 4, "if (1) { x: u8; } else { y: u5; }": 5, "if (1) { x: u5; } else { y: u8; } z: u1;": 6, "if (1) { x: u8; } else {}": 0, "if (1) { x: u8; } else { if (1) { x: u7; } else { x: u6; } }": 6, "choose (1) { case 1: { x: u8; } case 2: { x: u8; } }": 0, "choose (1) { case 1: { x: u8; } case 2: { x: u6; } default: { x: u7; } }": 6, "choose (1) { default: { x: u9; } }": 9, "choose (1) {} x: u1;": 1,
 		"stop 1;": 0, "x: u8; stop x; y: u8;": 8, "x: u8; stop 0; y: u8; stop y;": 8, "x: u8; stop x;": 8, "sub s { x: u8; stop x; y: u8; } z: u8;": 8, "x: u1; sub s { x: u8; stop x; } z: u8;": 9, "if (1) { x: u8; stop x; } else { y: u48; } z: u48;": 8, "if (1) { stop 1; } x: u8;": 0, "x: u2; if (1) { x: u1; } else { x: u3; stop x; } x: u1;": 4, "x: u2; if (1) { x: u1; } else { x: u3; stop x; } x: u3;": 5, "choose (1) { case 1: { x: u1; stop x; } default: { x: u2; stop x; } } y: u8;": 1,
 		"repeat (3) { x: u8; stop x; }": 8, "x: u1; repeat (3) { x: u8; stop x; y: u8; }": 9, "repeat (0) { stop 1; } x: u8;": 8, "until { x: u8; stop x; } y: u8; z: u8;": 8, "x: u1; until { stop 1; x: u8; } y: u8;": 1, "within (8) { x: u8; stop x; } y: u16;": 8, "n: u8; repeat (n) { x: u4; stop x; } y: u8;": 12, "within (8) { stop 1; x: u8; } y: u8;": 0,
@@ -76,7 +76,7 @@ func TestWork(t *testing.T) {
 		s           string
 		bytes, want int
 	}{
-		{"proto a {}", 0, 66 * 2 * 101 * 14 * 1}, {"proto a {}", 1, 74 * 2 * 101 * 14 * 1}, {"proto a {}", 400, 3266 * 2 * 101 * 14 * 1}, {"proto a { x: u8; } proto b { y: u8; z: u8; }", 10, 146 * 6 * 101 * 14 * 1}, {"proto a { x: u8; try a; }", 2, 82 * 4 * 101 * 14 * 2},
+		{"proto a {}", 0, 66 * 2 * 101 * 14 * 1}, {"proto a {}", 1, 74 * 2 * 101 * 14 * 1}, {"proto a {}", 400, 3266 * 2 * 101 * 14 * 1}, {"proto a { x: u8; } proto b { y: u8; z: u8; }", 10, 146 * 6 * 101 * 14 * 1}, {"proto a { x: u8; try a; }", 2, 82 * 4 * 101 * 14 * 2}, {"proto a { repeat (0) { goes a; } }", 1, 74 * 4 * 101 * 14 * 1},
 		{"proto b { x: u8; try a, b, b; } proto a { if (1) { x: u8; } else { sub s { until { let y = 1; z: bytes(1 + y * 2); w: u1; } try b; } } }", 3, 90 * 13 * 101 * 14 * 4},
 	} {
 		if n, e := check.Work(parse(t, c.s), "a", c.bytes); n != c.want || e != api.OK {

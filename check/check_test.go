@@ -127,7 +127,7 @@ func TestItself(t *testing.T) {
 		"repeat (1) { x: u8; }": true, "repeat (70) { x: u8; }": true, "repeat (0) { x: u8; }": false, "repeat (n) { x: u8; }": false, "repeat (2) { if (1) { x: u8; } }": false, "until { x: u8; }": false, "sub s { x: u8; }": true, "sub s {}": false, "within (1) { x: u8; }": true, "within (1) {}": false, "within (4) { x: bytes(0); }": false, "within (n) { if (1) { x: u8; } }": false, "within (n) { sub s { repeat (1) { x: i3; } } }": true,
 		"goes b;": false, "goes a;": false, "if (1) { try b; }": false, "if (1) { next t(1); }": false, "within (1) { try b; }": false, "sub s { goes b; x: u8; }": true, "if (1) { stop 1; } else { x: u8; }": false,
 	} {
-		for _, call := range []string{"goes a;", "try a;", "try b, a;", "sub s { goes a; }", "within (2) { goes a; }", "if (1) { goes a; }", "if (1) {} else { goes a; }", "if (1) { x: u8; } else { goes a; }", "choose (1) { case 1: {} case 2: { try a; } }", "choose (1) { default: { goes a; } }", "repeat (2) { goes a; }", "until { goes a; }", "goes b; goes a;", "goes c;", "repeat (0) { goes a; }", "repeat (n) { goes a; }"} {
+		for _, call := range []string{"goes a;", "try a;", "try b, a;", "sub s { goes a; }", "within (2) { goes a; }", "if (1) { goes a; }", "if (1) {} else { goes a; }", "if (1) { x: u8; } else { goes a; }", "choose (1) { case 1: {} case 2: { try a; } }", "choose (1) { default: { goes a; } }", "repeat (2) { goes a; }", "until { goes a; }", "goes b; goes a;", "goes c;", "repeat (1) { goes a; }", "repeat (70) { sub s { goes a; } }", "repeat (n) { goes a; }", "repeat (1 - 1) { goes a; }"} {
 			found := ""
 			if !want || s == "goes a;" {
 				found = "7 1 0"
@@ -139,7 +139,15 @@ func TestItself(t *testing.T) {
 			finds(t, source, found)
 		}
 	}
+	for _, s := range []string{ // no way goes through them to a call
+		"repeat (0) { goes a; }", "repeat (0) { goes b; goes a; x: u8; }", "repeat (0) { goes c; }", "repeat (0) { sub s { goes a; } }", "repeat (0) { within (1) { if (1) { goes a; } else { choose (1) { default: { goes a; } } } } }", "repeat (0) { repeat (2) { goes a; } until { goes a; } }",
+		"if (1) { repeat (0) { goes a; } }", "if (1) {} else { sub s { repeat (0) { goes a; } } }", "choose (1) { case 1: { repeat (0) { goes a; } } }", "repeat (2) { repeat (0) { goes a; } }", "until { repeat (0) { goes a; } x: u8; }", "within (1) { repeat (0) { goes a; } }",
+	} {
+		finds(t, "proto b { x: u8; } proto a { "+s+" } proto c { goes a; }", "")
+		finds(t, "proto b { x: u8; } proto a { "+s+" goes a; } proto c { x: u8; goes a; }", "7 1 0")
+	}
 	for s, want := range map[string]string{
+		"proto a { repeat (0) { goes b; } } proto b { goes a; }": "", "proto a { repeat (0) { goes b; } } proto b { repeat (1) { goes b; } }": "7 1 0", "proto a { repeat (0) { try a; } }": "6 0 1",
 		"proto a { goes a; }": "7 0 0", "proto a { x: u8; goes a; }": "", "proto a { goes a; x: u8; }": "7 0 0", "proto a { goes b; } proto b { goes c; } proto c { goes a; }": "7 0 0 7 1 0 7 2 0", "proto a { goes b; } proto b { x: u8; goes c; } proto c { goes a; }": "", "proto a { goes b; } proto b { goes c; } proto c { try d, b; } proto d { goes d; x: u1; }": "7 1 0 7 2 0 7 3 0",
 		"proto a { goes b; x: u8; goes a; } proto b { x: u8; goes a; }": "", "proto a { x: u8; goes b; } proto b { goes c; } proto c { goes b; }": "7 1 0 7 2 0", "proto a { next a(1); }": "", "proto a { goes x; }": "3 0 0", "proto a { if (1) { x: u8; goes a; } else { goes b; } } proto b { if (1) { goes a; } }": "7 0 0 7 1 0",
 		"proto a { if (1) { x: u8; goes b; } else { goes c; } } proto b { goes a; } proto c { goes d; } proto d { goes c; }": "7 2 0 7 3 0", "proto a { goes a; } proto a { goes b; } proto b { x: u8; goes a; }": "1 1 0 7 0 0", "proto a { x: u8; } proto a { goes a; }": "1 1 0 7 1 0",

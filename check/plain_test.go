@@ -25,8 +25,8 @@ type step struct {
 
 const mostWays = 600
 
-// turns is how often a loop is done at most whose count is no constant above 0, and one whose count is 0.
-type turns struct{ loop, none int }
+// turns is how often a loop is done at most whose count is no constant.
+type turns int
 
 // ways returns all ways through items that stand in so many withins; or false, if there are too many.
 func (t turns) ways(l []api.Item, in int) ([]way, bool) {
@@ -97,11 +97,11 @@ func (t turns) waysOf(i api.Item, in int) ([]way, bool) {
 			return out, true
 		}
 	}
-	out, last, most := here, here, t.loop
+	out, last, most := here, here, t
 	if i.Op == api.IIf || i.Op == api.IChoose {
 		most = 1
 	} else if count(i) == 0 {
-		most = t.none
+		most = 0
 	}
 	for range most {
 		last = after(last, blocks)
@@ -134,7 +134,7 @@ func plainSticks(loop api.Item) (bool, bool) {
 	if n := count(loop); n >= 0 && n <= 64 {
 		return false, true
 	}
-	l, ok := turns{1, 1}.ways(loop.B[0], 0)
+	l, ok := turns(1).ways(loop.B[0], 0)
 	return slices.ContainsFunc(l, func(w way) bool {
 		return !w.stopped && !slices.ContainsFunc(w.steps, func(s step) bool {
 			return fieldOf(s) > 0 || slices.Contains([]int{api.IWithin, api.IGoes, api.INext, api.ITry}, s.item.Op)
@@ -144,7 +144,7 @@ func plainSticks(loop api.Item) (bool, bool) {
 
 // plainEarly returns the names that ways call before they take anything.
 func plainEarly(l []api.Item) ([]string, bool) {
-	all, ok := turns{1, 1}.ways(l, 0)
+	all, ok := turns(1).ways(l, 0)
 	var out []string
 	for _, w := range all {
 		for _, s := range w.steps {
@@ -162,7 +162,7 @@ func plainEarly(l []api.Item) ([]string, bool) {
 
 // plainLeast returns the least bits of all ways; of a within that a way leaves as usual nothing counts.
 func plainLeast(l []api.Item) (int, bool) {
-	all, ok := turns{2, 0}.ways(l, 0)
+	all, ok := turns(2).ways(l, 0)
 	least := 1000000
 	for _, w := range all {
 		bits, inner := []int{0}, 0

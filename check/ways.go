@@ -34,7 +34,7 @@ func passes(l []api.Item, free func(api.Item) bool) bool {
 	var through func([]api.Item) bool
 	around := func(i api.Item) bool {
 		some := false
-		for _, block := range i.B {
+		for _, block := range open(i) {
 			// Each block has to be gone through, as the function may want to see what is in it.
 			some = through(block) || some
 		}
@@ -49,6 +49,14 @@ func passes(l []api.Item, free func(api.Item) bool) bool {
 		return true
 	}
 	return through(l)
+}
+
+// open returns the blocks of an item that a way may go through.
+func open(i api.Item) [][]api.Item {
+	if n, ok := constant(i.X); ok && n == 0 && i.Op == api.IRepeat {
+		return nil
+	}
+	return i.B
 }
 
 // maySkip tells whether a way may go past an item without going through one of its blocks.
@@ -122,14 +130,11 @@ func leastOf(i api.Item) (through, stopped int) {
 		return 0, 0
 	}
 	through, stopped = mostBits, mostBits
-	for _, block := range i.B {
+	for _, block := range open(i) {
 		t, s := least(block)
 		through, stopped = min(through, t), min(stopped, s)
 	}
 	if n, ok := constant(i.X); ok && i.Op == api.IRepeat {
-		if n == 0 {
-			return 0, mostBits
-		}
 		return through * min(n, mostBits), stopped
 	}
 	if i.Op == api.IWithin || maySkip(i) {
