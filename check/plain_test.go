@@ -11,7 +11,7 @@ import (
 	"wireglass/tree"
 )
 
-// way is a way through items, told step by step: what it takes and calls on it, and whether it stops there. A way that goes into a within has its bits, in, only as long as it is in there.
+// way is a way through items, told step by step: what it takes and calls on it, and whether it stops there.
 type way struct {
 	steps   []step
 	stopped bool
@@ -160,29 +160,18 @@ func plainEarly(l []api.Item) ([]string, bool) {
 	return out, ok
 }
 
-// plainLeast returns the least bits of all ways; of a within that a way leaves as usual nothing counts.
+// plainLeast returns the least bits of all ways. What stands in a within counts nothing.
 func plainLeast(l []api.Item) (int, bool) {
 	all, ok := turns(2).ways(l, 0)
 	least := 1000000
 	for _, w := range all {
-		bits, inner := []int{0}, 0
+		bits := 0
 		for _, s := range w.steps {
-			for ; inner > s.in; inner-- {
-				bits = bits[:inner]
-			}
-			bits[inner] += fieldOf(s)
-			if s.item.Op == api.IWithin {
-				inner++
-				bits = append(bits, 0)
+			if s.in == 0 {
+				bits += fieldOf(s)
 			}
 		}
-		sum := 0
-		for at, n := range bits {
-			if at == 0 || w.stopped && at <= w.steps[len(w.steps)-1].in {
-				sum += n
-			}
-		}
-		least = min(least, sum)
+		least = min(least, bits)
 	}
 	return least, ok
 }

@@ -1,6 +1,10 @@
 package check
 
-import "wireglass/api"
+import (
+	"slices"
+
+	"wireglass/api"
+)
 
 // mostBits is the greatest number of bits that Least tells.
 const mostBits = 1000000
@@ -128,6 +132,12 @@ func leastOf(i api.Item) (through, stopped int) {
 		return fieldBits(i), mostBits
 	case api.IStop:
 		return 0, 0
+	case api.IWithin:
+		// What stands in it counts nothing, in front of a stop too. Whether there is a stop cannot be told from least, whose numbers end at mostBits.
+		if stops(i.B[0]) {
+			return 0, 0
+		}
+		return 0, mostBits
 	}
 	through, stopped = mostBits, mostBits
 	for _, block := range open(i) {
@@ -137,10 +147,17 @@ func leastOf(i api.Item) (through, stopped int) {
 	if n, ok := constant(i.X); ok && i.Op == api.IRepeat {
 		return through * min(n, mostBits), stopped
 	}
-	if i.Op == api.IWithin || maySkip(i) {
+	if maySkip(i) {
 		return 0, stopped
 	}
 	return through, stopped
+}
+
+// stops tells whether some way stops in items.
+func stops(l []api.Item) bool {
+	return slices.ContainsFunc(l, func(i api.Item) bool {
+		return i.Op == api.IStop || slices.ContainsFunc(open(i), stops)
+	})
 }
 
 // Work returns how many items, at most, a walk does for a packet of so many bytes.
